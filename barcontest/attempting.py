@@ -1,25 +1,17 @@
-"""The call that makes an attempt: try_one."""
+"""The calls that make an attempt and judge it anew: try_one, reverse."""
 
 from barcontest.calling import left_in_order
-
-NOT_GOOD = 0
-GOOD = 1
-PASSED_BY = 2
-
-
-def wanted_behind(weight, good):
-    """What is asked for behind such an attempt."""
-    # This may pass the heaviest weight that can be asked for: that end is only for what a lifter says.
-    return weight + 1 if good == GOOD else weight
+from barcontest.state import GOOD, NOT_GOOD, PASSED_BY, Attempt
 
 
 def make_attempt(contest, lifter, good):
     record = contest.record(lifter)
-    weight = record.wanted
+    contest.bar = record.wanted
     contest.history.append((lifter, contest.lift))
-    record.attempts.append((weight, good, len(contest.history)))
-    record.wanted = wanted_behind(weight, good)
-    contest.bar = weight
+    attempt = Attempt(record.wanted, good, len(contest.history))
+    record.attempts.append(attempt)
+    record.wanted = attempt.asks_for()
+    record.changes = 0
 
 
 def try_one(contest, good):
@@ -29,8 +21,32 @@ def try_one(contest, good):
     if not contest.is_on():
         return [-4]
     lifter = left_in_order(contest)[0]
-    weight = contest.record(lifter).wanted
     make_attempt(contest, lifter, good)
+    weight = contest.bar
     if not left_in_order(contest):
         contest.next_lift()
     return [lifter, weight, contest.lift]
+
+
+def turn_round(record):
+    """Make the last attempt good if it was not, and the other way."""
+    attempt = record.attempts[-1]
+    attempt.good = NOT_GOOD if attempt.good == GOOD else GOOD
+    if record.changes == 0:
+        record.wanted = attempt.asks_for()
+    else:
+        # A change says what the lifter wants: it holds unless the attempt now asks for more.
+        record.wanted = max(record.wanted, attempt.asks_for())
+
+
+def reverse(contest):
+    """Turn the last attempt of all round; -4 if there was none, -5 if it was passed by."""
+    if not contest.history:
+        return [-4]
+    lifter = contest.history[-1][0]
+    lift = contest.history[-1][1]
+    record = contest.records[lift][lifter]
+    if record.attempts[-1].good == PASSED_BY:
+        return [-5]
+    turn_round(record)
+    return [lifter, record.attempts[-1].good]

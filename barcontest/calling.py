@@ -1,10 +1,17 @@
 """The order of calling, and who is up by it."""
 
 
+def standing(lifter, attempts):
+    """Of those who ask for as much, whoever has the least of these is called first."""
+    # Turns count from 1 on, so who has made no attempt yet comes earliest.
+    last_turn = attempts[-1].turn if attempts else 0
+    return (len(attempts), last_turn, lifter)
+
+
 def calling_rank(contest, lifter):
     """Whoever has the least of these is called first."""
     record = contest.record(lifter)
-    return (record.wanted, len(record.attempts), record.last_turn(), lifter)
+    return (record.wanted, standing(lifter, record.attempts))
 
 
 def left_in_order(contest):
@@ -19,7 +26,7 @@ def up(contest):
         return [-4]
     lifter = left_in_order(contest)[0]
     record = contest.record(lifter)
-    seconds = 120 if contest.tried_last(lifter) else 60
+    seconds = 120 if contest.who_tried_last() == lifter else 60
     return [lifter, record.wanted, seconds, len(record.attempts) + 1, contest.lift]
 
 

@@ -3,6 +3,24 @@
 LIFTS = 2
 ATTEMPTS_IN_A_LIFT = 3
 
+NOT_GOOD = 0
+GOOD = 1
+PASSED_BY = 2
+
+
+class Attempt:
+    """One attempt; turns count all attempts of the contest from 1 on."""
+
+    def __init__(self, weight, good, turn):
+        self.weight = weight
+        self.good = good
+        self.turn = turn
+
+    def asks_for(self):
+        """The weight that this attempt asks for next."""
+        # This may pass the heaviest weight that can be asked for: that end is only for what a lifter says.
+        return self.weight + 1 if self.good == GOOD else self.weight
+
 
 class Record:
     """What one lifter asks for and has done in one lift."""
@@ -10,17 +28,12 @@ class Record:
     def __init__(self):
         # 0: nothing has been asked for yet.
         self.wanted = 0
-        # Of each attempt (weight, good, turn); turns count all attempts of the contest from 1 on.
+        # How often that has been changed since the last attempt.
+        self.changes = 0
         self.attempts = []
 
     def is_left(self):
         return len(self.attempts) < ATTEMPTS_IN_A_LIFT
-
-    def last_turn(self):
-        """The turn of the last attempt; 0, earlier than every turn, if there was none."""
-        if not self.attempts:
-            return 0
-        return self.attempts[-1][2]
 
 
 def blank_records(teams):
@@ -55,10 +68,12 @@ class Contest:
         """The lifter's record in the lift that is on."""
         return self.records[self.lift][lifter]
 
-    def tried_last(self, lifter):
-        """Whether the last attempt in the lift that is on was this lifter's."""
+    def who_tried_last(self):
+        """Who made the last attempt in the lift that is on; None if nobody has."""
         # The last attempt of all may belong to the lift before: then nobody has tried in this one.
-        return len(self.history) > 0 and self.history[-1] == (lifter, self.lift)
+        if not self.history or self.history[-1][1] != self.lift:
+            return None
+        return self.history[-1][0]
 
     def next_lift(self):
         self.lift += 1

@@ -11,6 +11,7 @@ ORDER = [5]
 GOOD = [6, 1]
 NOT_GOOD = [6, 0]
 PASSED_BY = [6, 2]
+REVERSE = [8]
 
 
 def begin(*teams):
@@ -23,6 +24,22 @@ def ask(lifter, first, second):
 
 def try_one(good):
     return [6, good]
+
+
+def change(lifter, weight):
+    return [7, lifter, weight]
+
+
+def card(lifter, lift):
+    return [9, lifter, lift]
+
+
+def ranked(order):
+    return [10, order]
+
+
+def points(team):
+    return [11, team]
 
 
 def started(*weights):

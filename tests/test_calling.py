@@ -2,7 +2,7 @@
 
 import unittest
 
-from play import GOOD, NOT_GOOD, ORDER, PASSED_BY, START, UP, ask, begin, last, over, played, started
+from play import GOOD, NOT_GOOD, ORDER, PASSED_BY, UP, ask, begin, last, over, played, started
 
 
 class WhenThereIsNoLift(unittest.TestCase):
